@@ -1,0 +1,1 @@
+"""Tillsteps: steps of a till in another order."""

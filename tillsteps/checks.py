@@ -1,0 +1,48 @@
+"""What may be passed as steps and as a price."""
+
+from tillsteps.errors import BadPrice, BadSteps
+
+MOST_STEPS = 6
+GREATEST_PRICE = 10 ** 30
+RULES = ("down", "up", "near")
+RANGES = {"part": (0, 200), "add": (-200, 200), "even": (2, 100), "least": (0, 1000), "most": (0, 1000)}
+RULED = ("part", "even")
+
+
+def is_integer_within(value, low, high):
+    """Whether value is an integer from low to high."""
+    # Python counts True and False among its integers, the document does not.
+    if isinstance(value, bool) or not isinstance(value, int):
+        return False
+    return low <= value <= high
+
+
+def is_step(value):
+    """Whether value is a step."""
+    if not isinstance(value, tuple) or len(value) < 2:
+        return False
+    word = value[0]
+    # Only what can be a key is looked up: a list or a dict cannot.
+    if not isinstance(word, str) or word not in RANGES:
+        return False
+    low, high = RANGES[word]
+    if not is_integer_within(value[1], low, high):
+        return False
+    if word in RULED:
+        return len(value) == 3 and value[2] in RULES
+    return len(value) == 2
+
+
+def check_steps(steps):
+    """Raises BadSteps if steps are none."""
+    if not isinstance(steps, tuple) or len(steps) > MOST_STEPS:
+        raise BadSteps(None)
+    for index, thing in enumerate(steps):
+        if not is_step(thing):
+            raise BadSteps(index)
+
+
+def check_price(price):
+    """Raises BadPrice if price is none."""
+    if not is_integer_within(price, 0, GREATEST_PRICE):
+        raise BadPrice()
