@@ -1,4 +1,6 @@
-"""Values that several tests pass: what is a step, what is none, and what is no price."""
+"""Values that several tests pass: what is a step, what is none, what is no price, and what is no number."""
+
+from itertools import product
 
 PLAIN_STEPS = [
     ("part", 0, "down"), ("part", 0, "near"), ("part", 1, "up"), ("part", 33, "down"), ("part", 50, "near"),
@@ -68,4 +70,36 @@ NO_TUPLES = [
 NO_PRICES = [
     -1, -5, -10 ** 30, 10 ** 30 + 1, 10 ** 31, 10 ** 60, True, False, None, "", "5", "price", (), (5,), [], [5],
     {}, {5: 5}, ((5,),), [[5]],
+]
+
+# What is no number of things that can be asked for.
+NO_NUMBERS = [
+    0, 51, -1, -50, 100, 10 ** 30, -10 ** 30, True, False, None, "", "5", "50", "many", (), (5,), [], [5], {}, {5: 5},
+    ((5,),), [[5]],
+]
+
+# Steps whose bounds and widths are so small that a few hundred prices show all that a row of two of them does.
+SMALL_STEPS = [
+    ("part", 0, "up"), ("part", 50, "down"), ("part", 50, "up"), ("part", 150, "near"), ("part", 200, "down"),
+    ("add", -7), ("add", 0), ("add", 3), ("even", 2, "near"), ("even", 3, "up"), ("least", 0), ("least", 5),
+    ("most", 4), ("most", 9),
+]
+
+SMALL_ROWS = [()] + [row for count in (1, 2) for row in product(SMALL_STEPS, repeat=count)]
+
+# A step that reaches 1 at 10 ** 10, and rows of the width 1 whose bounds lie as far.
+HUNDREDTH = ("part", 1, "down")
+FAR_FLAT = (HUNDREDTH,) * 5 + (("most", 1000),)
+
+# Rows of these widths: the first ones can be decided, the others cannot.
+WIDE_ROWS = [
+    ((("part", 1, "up"), ("part", 1, "near"), ("even", 2, "down")), 20000),
+    ((("even", 81, "up"), ("even", 13, "up"), ("even", 17, "up")), 17901),
+    ((("even", 100, "down"), ("even", 99, "near"), ("add", 5), ("even", 8, "up")), 19800),
+]
+TOO_WIDE_ROWS = [
+    ((("even", 81, "up"), ("even", 13, "up"), ("even", 19, "up")), 20007),
+    ((("part", 1, "up"), ("part", 1, "near"), ("even", 3, "down")), 30000),
+    ((("part", 1, "up"), ("part", 1, "up"), ("part", 50, "down")), 1000000),
+    ((HUNDREDTH,) * 6, 10 ** 12),
 ]

@@ -1,9 +1,11 @@
-"""What may be passed as steps and as a price."""
+"""What may be passed as steps, as a price, and as a number of things asked for."""
 
-from tillsteps.errors import BadPrice, BadSteps
+from tillsteps.errors import BadNumber, BadPrice, BadSteps, TooMany
 
 MOST_STEPS = 6
+MOST_ORDERED_STEPS = 4
 GREATEST_PRICE = 10 ** 30
+MOST_ASKED_FOR = 50
 RULES = ("down", "up", "near")
 RANGES = {"part": (0, 200), "add": (-200, 200), "even": (2, 100), "least": (0, 1000), "most": (0, 1000)}
 RULED = ("part", "even")
@@ -46,3 +48,16 @@ def check_price(price):
     """Raises BadPrice if price is none."""
     if not is_integer_within(price, 0, GREATEST_PRICE):
         raise BadPrice()
+
+
+def check_ordered_steps(steps):
+    """Raises BadSteps if steps are none, TooMany if they are too many to be put into all orders."""
+    check_steps(steps)
+    if len(steps) > MOST_ORDERED_STEPS:
+        raise TooMany(MOST_ORDERED_STEPS)
+
+
+def check_many(many):
+    """Raises BadNumber if many is no number of things that can be asked for."""
+    if not is_integer_within(many, 1, MOST_ASKED_FOR):
+        raise BadNumber()

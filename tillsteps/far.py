@@ -1,8 +1,11 @@
 """How final prices go on behind all bounds."""
 
-from math import gcd
+from math import gcd, lcm
 
 from tillsteps.checks import check_steps
+from tillsteps.errors import TooWide
+
+GREATEST_WIDTH = 20000
 
 
 def width_behind(step, wide, rise):
@@ -34,3 +37,13 @@ def slope(steps):
     wide, rise = width(steps)
     shared = gcd(rise, wide)
     return rise // shared, wide // shared
+
+
+def common_width(rows):
+    """The least multiple of the widths of all rows of steps; raises TooWide if it is too great."""
+    common = 1
+    for steps in rows:
+        common = lcm(common, width(steps)[0])
+    if common > GREATEST_WIDTH:
+        raise TooWide(GREATEST_WIDTH)
+    return common

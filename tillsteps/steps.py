@@ -28,14 +28,19 @@ def price_behind(step, price):
     return min(price, number)
 
 
-def pay(steps, price):
-    """The final price of the price."""
-    check_steps(steps)
-    check_price(price)
+def final_price(steps, price):
+    """The final price of a price that may be beyond what can be passed."""
     reached = price
     for step in steps:
         reached = price_behind(step, reached)
     return reached
+
+
+def pay(steps, price):
+    """The final price of the price."""
+    check_steps(steps)
+    check_price(price)
+    return final_price(steps, price)
 
 
 def trail(steps, price):
