@@ -133,6 +133,21 @@ class TestLots(unittest.TestCase):
         self.check(steps, [last, [order for order in orders_of(steps) if order[3] != 3]])
 
 
+class TestBoundsBehindAWholeWidth(unittest.TestCase):
+    """Orders that part, or are cheaper in turn, only behind the bounds of all, and these lie beyond a width."""
+
+    def test_by_each_price(self):
+        for steps in ((("add", -200), ("even", 2, "up"), ("part", 80, "up")),
+                      (("part", 80, "near"), ("even", 2, "near"), ("least", 1000)),
+                      (("even", 7, "up"), ("least", 1000), ("part", 33, "up")),
+                      (("part", 20, "down"), ("part", 80, "near"), ("add", -200)),
+                      (("part", 10, "down"), ("part", 75, "down"), ("add", -200)),
+                      (("part", 90, "near"), ("part", 10, "near"), ("add", -200))):
+            with self.subTest(steps=steps):
+                told = told_by_each_price(steps, range(6000))
+                self.assertEqual((lots(steps), always_cheapest(steps)), told)
+
+
 class TestCheapest(unittest.TestCase):
     def check(self, steps, price, told):
         with self.subTest(steps=steps, price=price):

@@ -75,7 +75,8 @@ class TestRinging(TillCase):
         self.assertEqual(till.total(), 3 * GREAT // 2 - 2)
         self.assertEqual(till.at_once(), 3 * GREAT // 2 - 1)
         till = self.rung((("add", 1),), *(GREAT,) * 40)
-        self.assertEqual([till.total(), till.at_once(), till.clear()], [40 * GREAT + 40, 40 * GREAT + 1, 40 * GREAT + 40])
+        self.assertEqual([till.total(), till.at_once()], [40 * GREAT + 40, 40 * GREAT + 1])
+        self.assertEqual(till.clear(), 40 * GREAT + 40)
 
     def test_full(self):
         till = Till(HALF)

@@ -40,7 +40,7 @@ def slope(steps):
 
 
 def common_width(rows):
-    """The least multiple of the widths of all rows of steps; raises TooWide if it is too great."""
+    """The least multiple of the widths of all rows; raises BadSteps for the first that is none, or else TooWide."""
     common = 1
     for steps in rows:
         common = lcm(common, width(steps)[0])

@@ -11,13 +11,12 @@ def difference(one, other, price):
     return final_price(one, price) - final_price(other, price)
 
 
-def telling_prices(one, other):
-    """Ascending prices at which all is seen of the difference between the two.
+def telling_prices(one, other, wide):
+    """Ascending prices at which all is seen of the difference between the two, wide being a common width.
 
     Between two of them that are no neighbours one of the rows stays in one run, so that the difference only rises
     there, or only falls. The last ones are a common width, and one more, of prices from which on both go on by it.
     """
-    wide = common_width((one, other))
     # The runs of the row that settles later are all known up to where both have settled.
     starts = max(run_starts(one), run_starts(other), key=lambda found: found[-1])
     far = starts[-1]
@@ -40,39 +39,31 @@ def first_parting(one, other, low, high):
     return parted
 
 
-def least_parting(one, other):
+def least_parting(one, other, wide):
     """The least price for which the final prices are not the same, None if there is none."""
+    # The first telling price is 0: if they part there, none is left to look at.
     alike = -1
-    for price in telling_prices(one, other):
+    for price in telling_prices(one, other, wide):
         if difference(one, other, price) != 0:
             return first_parting(one, other, alike, price)
         alike = price
     return None
 
 
-def check_rows(one, other):
-    """Raises BadSteps if one is no steps, then if other is none, then TooWide."""
-    check_steps(one)
-    check_steps(other)
-    common_width((one, other))
-
-
 def same(one, other):
     """Whether both have the same final price for all prices."""
-    check_rows(one, other)
-    return least_parting(one, other) is None
+    return parts(one, other) is None
 
 
 def parts(one, other):
     """The least price for which both do not have the same final price, None if there is none."""
-    check_rows(one, other)
-    return least_parting(one, other)
+    return least_parting(one, other, common_width((one, other)))
 
 
 def apart(one, other):
     """The least and the greatest difference for any price, None for one that has no bound."""
-    check_rows(one, other)
-    differences = [difference(one, other, price) for price in telling_prices(one, other)]
+    prices = telling_prices(one, other, common_width((one, other)))
+    differences = [difference(one, other, price) for price in prices]
     rise, wide = slope(one)
     other_rise, other_wide = slope(other)
     # By the slopes the difference grows for ever, falls for ever, or repeats.
@@ -86,5 +77,5 @@ def needless(steps):
     """The ascending indexes of the steps without which, each left out alone, all final prices stay the same."""
     check_steps(steps)
     shorter = [steps[:index] + steps[index + 1:] for index in range(len(steps))]
-    common_width([steps] + shorter)
-    return [index for index, row in enumerate(shorter) if least_parting(steps, row) is None]
+    wide = common_width([steps] + shorter)
+    return [index for index, row in enumerate(shorter) if least_parting(steps, row, wide) is None]
