@@ -72,6 +72,12 @@ NO_PRICES = [
     {}, {5: 5}, ((5,),), [[5]],
 ]
 
+# What is no tuple of 1 to 6 things, whatever the things are.
+NO_PRICE_TUPLES = [
+    None, True, False, 0, 5, -1, "", "5", "5, 6", [], [5], [5, 6], [(5,)], {}, {5: 6}, {(5,): 1}, (),
+    (5,) * 7, (None,) * 7, (5,) * 6 + (None,), (None,) + (5,) * 6, (5,) * 50,
+]
+
 # What is no number of things that can be asked for.
 NO_NUMBERS = [
     0, 51, -1, -50, 100, 10 ** 30, -10 ** 30, True, False, None, "", "5", "50", "many", (), (5,), [], [5], {}, {5: 5},

@@ -1,10 +1,11 @@
-"""What may be passed as steps, as a price, and as a number of things asked for."""
+"""What may be passed as steps, as a price, as prices, and as a number of things asked for."""
 
-from tillsteps.errors import BadNumber, BadPrice, BadSteps, TooMany
+from tillsteps.errors import BadNumber, BadPrice, BadPrices, BadSteps, TooMany
 
 MOST_STEPS = 6
 MOST_ORDERED_STEPS = 4
 GREATEST_PRICE = 10 ** 30
+MOST_PARTED = 6
 MOST_ASKED_FOR = 50
 RULES = ("down", "up", "near")
 RANGES = {"part": (0, 200), "add": (-200, 200), "even": (2, 100), "least": (0, 1000), "most": (0, 1000)}
@@ -44,10 +45,24 @@ def check_steps(steps):
             raise BadSteps(index)
 
 
+def is_price(value):
+    """Whether value is a price that can be passed."""
+    return is_integer_within(value, 0, GREATEST_PRICE)
+
+
 def check_price(price):
     """Raises BadPrice if price is none."""
-    if not is_integer_within(price, 0, GREATEST_PRICE):
+    if not is_price(price):
         raise BadPrice()
+
+
+def check_prices(prices):
+    """Raises BadPrices if prices are none that can be parted into lots."""
+    if not isinstance(prices, tuple) or not 1 <= len(prices) <= MOST_PARTED:
+        raise BadPrices(None)
+    for index, thing in enumerate(prices):
+        if not is_price(thing):
+            raise BadPrices(index)
 
 
 def check_ordered_steps(steps):

@@ -57,3 +57,13 @@ def run_starts(steps):
             break
         start = first_reaching(steps, final_price(steps, start) + 1)
     return found
+
+
+def run_starts_below(steps, bound):
+    """The ascending first prices of all runs that begin below the bound."""
+    found = []
+    start = 0
+    while start is not None and start < bound:
+        found.append(start)
+        start = first_reaching(steps, final_price(steps, start) + 1)
+    return found
